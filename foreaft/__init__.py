@@ -1,0 +1,1 @@
+"""Foreaft: functions on words by machines that read from both ends."""

@@ -1,0 +1,74 @@
+"""The names of the interface, where they are defined and what they take."""
+
+import ast
+import unittest
+from pathlib import Path
+
+PACKAGE = Path(__file__).resolve().parent.parent / "foreaft"
+
+FUNCTIONS = {
+    "words": {
+        "is_alphabet": ["thing"],
+        "is_word": ["alphabet", "thing"],
+        "comes_before": ["alphabet", "one", "two"],
+    },
+    "machines": {
+        "form": ["machine"],
+        "run": ["machine", "word"],
+        "output_between": ["machine", "left", "right", "word"],
+        "states_of": ["machine", "word"],
+        "left_state": ["machine", "word"],
+        "right_state": ["machine", "word"],
+        "trim": ["machine"],
+        "mirror": ["machine"],
+        "identity": ["alphabet"],
+        "recode": ["machine", "alphabet", "letters"],
+    },
+    "compare": {
+        "is_same": ["one", "two"],
+        "difference": ["one", "two"],
+        "same_paper": ["one", "two"],
+        "is_same_paper": ["one", "two", "paper"],
+    },
+}
+
+CLASSES = {
+    "errors": {
+        "MachineError": ["reason"],
+        "BookError": ["reason"],
+        "PatternError": ["place", "reason"],
+        "RuleError": ["line", "place", "reason"],
+    },
+    "machines": {"Machine": ["reads", "writes", "left", "right", "table"]},
+}
+
+
+def tree(name):
+    return ast.parse((PACKAGE / f"{name}.py").read_text(encoding="utf-8"))
+
+
+def names_of(function):
+    return [argument.arg for argument in function.args.args]
+
+
+class TestInterface(unittest.TestCase):
+    def test_functions(self):
+        for name, functions in FUNCTIONS.items():
+            found = {row.name: names_of(row) for row in tree(name).body if isinstance(row, ast.FunctionDef)}
+            for function, arguments in functions.items():
+                self.assertEqual(found.get(function), arguments, (name, function))
+
+    def test_classes(self):
+        for name, classes in CLASSES.items():
+            found = {row.name: row for row in tree(name).body if isinstance(row, ast.ClassDef)}
+            for kind, arguments in classes.items():
+                methods = {row.name: row for row in found[kind].body if isinstance(row, ast.FunctionDef)}
+                self.assertEqual(names_of(methods["__init__"]), ["self"] + arguments, (name, kind))
+
+    def test_base_error(self):
+        found = [row.name for row in tree("errors").body if isinstance(row, ast.ClassDef)]
+        self.assertEqual(sorted(found), ["BookError", "ForeaftError", "MachineError", "PatternError", "RuleError"])
+
+
+if __name__ == "__main__":
+    unittest.main()
