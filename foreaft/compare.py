@@ -2,7 +2,7 @@
 
 from foreaft.errors import MachineError
 from foreaft.walks import left_words, right_words
-from foreaft.words import comes_before
+from foreaft.words import earlier, first_place
 
 
 def is_same(one, two):
@@ -21,8 +21,8 @@ def difference(one, two):
         if best is not None and len(front) >= len(best):
             break
         rest = _first_split(one.table[i], two.table[m], rights, letters)
-        if rest is not None and (best is None or comes_before(letters, front + rest, best)):
-            best = front + rest
+        if rest is not None:
+            best = earlier(letters, best, front + rest)
     return best
 
 
@@ -67,18 +67,8 @@ def _first_split(row, other, rights, letters):
         if best is not None and len(behind) >= len(best):
             break
         if row[j] != other[n]:
-            found = letters[_first_place(row[j], other[n])] + behind
-            if best is None or comes_before(letters, found, best):
-                best = found
+            best = earlier(letters, best, letters[first_place(row[j], other[n])] + behind)
     return best
-
-
-def _first_place(one, two):
-    """Return the first place in which two different strings of one length differ."""
-    k = 0
-    while one[k] == two[k]:
-        k += 1
-    return k
 
 
 def _is_closed(pairs, rows, others):

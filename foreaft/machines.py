@@ -1,7 +1,7 @@
 """Machines that read a word from both ends, and what they write."""
 
 from foreaft.errors import MachineError
-from foreaft.walks import left_words, right_words
+from foreaft.parts import columns, trim_parts
 from foreaft.words import indices, is_alphabet, is_word
 
 MOST_STATES = 40
@@ -104,24 +104,13 @@ def _path(rows, start, read):
 
 def trim(machine):
     """Return the machine of the states that words have, in the order of their first words."""
-    lefts = [states[0] for states in left_words([machine.left], machine.reads)]
-    rights = [states[0] for states in right_words([machine.right], machine.reads)]
-    left = _renumbered(machine.left, lefts)
-    right = _renumbered(machine.right, rights)
-    table = [[machine.table[i][j] for j in rights] for i in lefts]
+    left, right, table = trim_parts(machine.reads, machine.left, machine.right, machine.table)
     return Machine(machine.reads, machine.writes, left, right, table)
-
-
-def _renumbered(rows, states):
-    """Return the rows of these states, which are numbered in their order."""
-    numbers = {state: number for number, state in enumerate(states)}
-    return [[numbers[after] for after in rows[state]] for state in states]
 
 
 def mirror(machine):
     """Return the machine that does the same from the other end."""
-    table = [[row[j] for row in machine.table] for j in range(len(machine.right))]
-    return Machine(machine.reads, machine.writes, machine.right, machine.left, table)
+    return Machine(machine.reads, machine.writes, machine.right, machine.left, columns(machine.table))
 
 
 def identity(alphabet):

@@ -31,6 +31,21 @@ def comes_before(alphabet, one, two):
     return False
 
 
+def earlier(alphabet, one, two):
+    """Return the one of two words that comes first; the first one can be None, for no word."""
+    if one is None or comes_before(alphabet, two, one):
+        return two
+    return one
+
+
+def first_place(one, two):
+    """Return the first place in which two different strings of one length differ."""
+    k = 0
+    while one[k] == two[k]:
+        k += 1
+    return k
+
+
 def indices(alphabet, word):
     """Return the index of each letter of a word."""
     return [alphabet.index(letter) for letter in word]

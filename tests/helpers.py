@@ -1,8 +1,9 @@
 """Machines to test with, and the document's definitions written down as directly as possible."""
 
+import random
 from itertools import product
 
-from foreaft.machines import Machine
+from foreaft.machines import Machine, run
 
 
 def words_up_to(alphabet, length):
@@ -73,33 +74,169 @@ def is_right_paper(one, two, paper):
     )
 
 
-def random_machine(random, reads, writes, lefts, rights):
+def plain_classes(states, outputs_of):
+    """The states, sorted into lists of those with equal outputs."""
+    classes = {}
+    for state in states:
+        classes.setdefault(outputs_of(state), []).append(state)
+    return list(classes.values())
+
+
+def plain_least(machine):
+    """Point 12, by the outputs for all words that can matter."""
+    lefts = list(plain_first_words(machine, plain_left, len(machine.left) - 1))
+    rights = list(plain_first_words(machine, plain_right, len(machine.right) - 1))
+    words = list(words_up_to(machine.reads, len(lefts) + len(rights) - 1))
+    left_classes = plain_classes(
+        lefts, lambda i: tuple(plain_between(machine, i, 0, word) for word in words),
+    )
+    right_classes = plain_classes(
+        rights, lambda j: tuple(plain_between(machine, 0, j, word) for word in words),
+    )
+    left = [[number_of(left_classes, to) for to in machine.left[states[-1]]] for states in left_classes]
+    right = [[number_of(right_classes, to) for to in machine.right[states[-1]]] for states in right_classes]
+    table = [[machine.table[i[-1]][j[-1]] for j in right_classes] for i in left_classes]
+    return Machine(machine.reads, machine.writes, left, right, table)
+
+
+def number_of(classes, state):
+    return [state in states for states in classes].index(True)
+
+
+def plain_separator(machine, side, one, two, length):
+    """The first word up to a length for which the outputs from two states of a side differ, or None."""
+    for word in words_up_to(machine.reads, length):
+        if side == "left":
+            outputs = [plain_between(machine, state, 0, word) for state in (one, two)]
+        else:
+            outputs = [plain_between(machine, 0, state, word) for state in (one, two)]
+        if outputs[0] != outputs[1]:
+            return word
+    return None
+
+
+def is_right_least_paper(machine, paper):
+    """Point 15, word by word, for a tuple of four lists of words."""
+    lefts, rights, left_splits, right_splits = paper
+    many, more = len(machine.left), len(machine.right)
+    if [plain_left(machine, 0, word) for word in lefts] != list(range(many)):
+        return False
+    if [plain_right(machine, 0, word) for word in rights] != list(range(more)):
+        return False
+    if len(left_splits) != many * (many - 1) // 2 or len(right_splits) != more * (more - 1) // 2:
+        return False
+    place = 0
+    for two in range(many):
+        for one in range(two):
+            word = left_splits[place]
+            if plain_between(machine, one, 0, word) == plain_between(machine, two, 0, word):
+                return False
+            place += 1
+    place = 0
+    for two in range(more):
+        for one in range(two):
+            word = right_splits[place]
+            if plain_between(machine, 0, one, word) == plain_between(machine, 0, two, word):
+                return False
+            place += 1
+    return True
+
+
+def plain_look_ahead(machine, most):
+    """Point 17 for machines with at most 2 left and 3 right states, or None if it is more than most."""
+    fronts = list(words_up_to(machine.reads, 3))
+    ends = list(words_up_to(machine.reads, 2))
+    for many in range(most + 1):
+        outputs = {}
+        for letters in product(machine.reads, repeat=many):
+            for front in fronts:
+                for end in ends:
+                    begun = run(machine, front + "".join(letters) + end)[:len(front)]
+                    outputs.setdefault((front, letters), set()).add(begun)
+        if all(len(begun) == 1 for begun in outputs.values()):
+            return many
+    return None
+
+
+def is_right_ahead_paper(machine, paper):
+    """Point 18, for a tuple of four or five words."""
+    front, middle, one, two = paper[0], paper[1], paper[-2], paper[-1]
+    if len(paper) == 5:
+        circle = paper[2]
+        if circle == "":
+            return False
+        for end in (one, two):
+            if plain_right(machine, 0, circle + end) != plain_right(machine, 0, end):
+                return False
+    outputs = [plain_run(machine, front + middle + end)[:len(front)] for end in (one, two)]
+    return outputs[0] != outputs[1]
+
+
+def ladder(letters="a", many=40, more=40):
+    """A machine that counts the letters on both sides, and writes another letter only where both are many."""
+    last = letters[-1]
+    left = [[min(state + 1, many - 1)] * len(letters) for state in range(many)]
+    right = [[min(state + 1, more - 1)] * len(letters) for state in range(more)]
+    other = "b" if last != "b" else "c"
+    table = [[last * len(letters)] * more for _ in range(many)]
+    table[-1][-1] = other * len(letters)
+    return Machine(letters, last + other, left, right, table)
+
+
+def some_machines(seed, many, sizes=((1, 1), (1, 2), (2, 1), (2, 2), (3, 2), (2, 3), (3, 3))):
+    """Random small machines, some of them with states that are alike or that no word has."""
+    source = random.Random(seed)
+    for at in range(many):
+        lefts, rights = sizes[at % len(sizes)]
+        reads = source.choice(["ab", "ba", "ab", "ba", "a", "cab"])
+        writes = source.choice(["ab", "ba", "xyz", "b"])
+        machine = random_machine(source, reads, writes, lefts, rights)
+        if source.random() < 0.4:
+            machine = mostly_alike(source, machine)
+        yield machine
+
+
+def mostly_alike(source, machine):
+    """The machine with one string in most places of its table."""
+    usual = machine.table[0][0]
+    table = [[written if source.random() < 0.3 else usual for written in row] for row in machine.table]
+    return Machine(machine.reads, machine.writes, machine.left, machine.right, table)
+
+
+def mostly_reset(source, machine):
+    """The machine with right states that lead to one and the same state by most letters."""
+    usual = [source.randrange(len(machine.right)) for _ in machine.reads]
+    right = [[source.choice([to, after, to]) for to, after in zip(usual, row)] for row in machine.right]
+    return Machine(machine.reads, machine.writes, machine.left, right, machine.table)
+
+
+def random_machine(source, reads, writes, lefts, rights):
     many = len(reads)
     return Machine(
         reads, writes,
-        [[random.randrange(lefts) for _ in reads] for _ in range(lefts)],
-        [[random.randrange(rights) for _ in reads] for _ in range(rights)],
-        [["".join(random.choice(writes) for _ in range(many)) for _ in range(rights)] for _ in range(lefts)],
+        [[source.randrange(lefts) for _ in reads] for _ in range(lefts)],
+        [[source.randrange(rights) for _ in reads] for _ in range(rights)],
+        [["".join(source.choice(writes) for _ in range(many)) for _ in range(rights)] for _ in range(lefts)],
     )
 
 
-def shuffled(random, machine):
+def shuffled(source, machine):
     """A machine that does the same, with its states doubled and numbered in another way (0 stays)."""
-    left, left_at = doubled(random, machine.left)
-    right, right_at = doubled(random, machine.right)
+    left, left_at = doubled(source, machine.left)
+    right, right_at = doubled(source, machine.right)
     table = [[machine.table[i][j] for j in right_at] for i in left_at]
     return Machine(machine.reads, machine.writes, left, right, table)
 
 
-def doubled(random, rows):
+def doubled(source, rows):
     old = list(range(len(rows))) * 2
     rest = old[1:]
-    random.shuffle(rest)
+    source.shuffle(rest)
     old = [0] + rest
     copies = {}
     for new, state in enumerate(old):
         copies.setdefault(state, []).append(new)
-    return [[random.choice(copies[after]) for after in rows[state]] for state in old], old
+    return [[source.choice(copies[after]) for after in rows[state]] for state in old], old
 
 
 def windows(letters, length):

@@ -30,6 +30,34 @@ FUNCTIONS = {
         "same_paper": ["one", "two"],
         "is_same_paper": ["one", "two", "paper"],
     },
+    "least": {
+        "least": ["machine"],
+        "is_least": ["machine"],
+        "counts": ["machine"],
+        "separator": ["machine", "side", "one", "two"],
+        "least_paper": ["machine"],
+        "is_least_paper": ["machine", "paper"],
+    },
+    "sides": {
+        "is_one_sided": ["machine", "side"],
+        "look_ahead": ["machine"],
+        "look_back": ["machine"],
+        "ahead_paper": ["machine"],
+        "is_ahead_paper": ["machine", "paper"],
+    },
+    "cascades": {
+        "compose": ["first", "second"],
+        "cascade": ["machines"],
+        "commutes": ["one", "two"],
+        "order_difference": ["one", "two"],
+        "is_idempotent": ["machine"],
+    },
+    "images": {
+        "first_preimage": ["machine", "word"],
+        "count_preimages": ["machine", "word"],
+        "preimages": ["machine", "word", "most"],
+        "first_with": ["machine", "piece"],
+    },
 }
 
 CLASSES = {
