@@ -2,9 +2,9 @@
 
 from foreaft.compare import difference
 from foreaft.errors import MachineError
-from foreaft.least import least
-from foreaft.machines import MOST_STATES, Machine, form, mirror
-from foreaft.parts import least_parts
+from foreaft.least import least, least_of_parts
+from foreaft.machines import form, mirror
+from foreaft.walks import reached
 from foreaft.words import indices
 
 MOST_COMPOSED = 100
@@ -18,10 +18,7 @@ def compose(first, second):
     lefts, left = _composed_states(one, two)
     rights, right = _composed_states(mirror(one), mirror(two))
     table = [[_written(one, two, before, behind) for behind in rights] for before in lefts]
-    left, right, table = least_parts(one.reads, left, right, table)
-    if len(left) > MOST_STATES or len(right) > MOST_STATES:
-        raise MachineError("too many states")
-    return Machine(one.reads, two.writes, left, right, table)
+    return least_of_parts(one.reads, two.writes, left, right, table)
 
 
 def cascade(machines):
@@ -63,30 +60,16 @@ def _composed_states(one, two):
     of it, a left state of the second machine.
     """
     start = (0, (0,) * len(one.right))
-    numbers = {start: 0}
-    states = [start]
-    rows = []
-    while len(rows) < len(states):
-        state = states[len(rows)]
-        row = []
-        for after in _states_after(one, two, state):
-            if after not in numbers:
-                numbers[after] = len(states)
-                states.append(after)
-            row.append(numbers[after])
-        rows.append(row)
-        if len(states) > MOST_COMPOSED:
-            raise MachineError("too many states")
-    return (states, rows)
+    return reached(start, lambda state: _states_after(one, two, state), MOST_COMPOSED)
 
 
 def _states_after(one, two, state):
     """Return the composed left states to which the letters lead."""
-    i, reached = state
+    i, rest = state
     afters = []
     for k, after in enumerate(one.left[i]):
         reads = indices(two.reads, [written[k] for written in one.table[i]])
-        befores = [reached[row[k]] for row in one.right]
+        befores = [rest[row[k]] for row in one.right]
         afters.append((after, tuple([two.left[before][letter] for before, letter in zip(befores, reads)])))
     return afters
 

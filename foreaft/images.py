@@ -21,11 +21,11 @@ def first_preimage(machine, word):
 def count_preimages(machine, word):
     """Return the number of the preimages of a word."""
     made = least(machine)
-    links = _links(made)
+    links = links_of(made)
     many = len(made.right)
     counts = [1] * many + [0] * (many * (len(made.left) - 1))
     for letter in word:
-        counts = _counts_after(counts, links[letter])
+        counts = counts_after(counts, links[letter])
     return sum(counts[::many])
 
 
@@ -106,7 +106,7 @@ def _open_rights(made, spots, i):
     return spots >> (i * many) & ((1 << many) - 1)
 
 
-def _links(made):
+def links_of(made):
     """Return for each output letter the steps that write it, as pairs of the spots before and behind it."""
     many = len(made.right)
     links = {letter: [] for letter in made.writes}
@@ -117,7 +117,7 @@ def _links(made):
     return links
 
 
-def _counts_after(counts, links):
+def counts_after(counts, links):
     """Return for each spot how many words lead to it, one letter later."""
     after = [0] * len(counts)
     for source, target in links:
@@ -128,7 +128,7 @@ def _counts_after(counts, links):
 def _sources(made):
     """Return for each output letter and each spot the set of the spots from which the letter leads to it."""
     found = {}
-    for letter, links in _links(made).items():
+    for letter, links in links_of(made).items():
         found[letter] = [0] * (len(made.left) * len(made.right))
         for source, target in links:
             found[letter][target] |= 1 << source

@@ -1,6 +1,7 @@
 """Least machines, and papers that show that a machine has no states too many."""
 
-from foreaft.machines import Machine, form, left_state, output_between, right_state
+from foreaft.errors import MachineError
+from foreaft.machines import MOST_STATES, Machine, form, left_state, output_between, right_state
 from foreaft.parts import least_parts
 from foreaft.separators import Half, all_pairs, first_separators, pairs_from
 from foreaft.walks import left_words, right_words
@@ -9,8 +10,15 @@ from foreaft.words import is_word
 
 def least(machine):
     """Return the least machine that is the same."""
-    left, right, table = least_parts(machine.reads, machine.left, machine.right, machine.table)
-    return Machine(machine.reads, machine.writes, left, right, table)
+    return least_of_parts(machine.reads, machine.writes, machine.left, machine.right, machine.table)
+
+
+def least_of_parts(reads, writes, left, right, table):
+    """Return the least machine of parts that can have too many states for a machine."""
+    left, right, table = least_parts(reads, left, right, table)
+    if len(left) > MOST_STATES or len(right) > MOST_STATES:
+        raise MachineError("too many states")
+    return Machine(reads, writes, left, right, table)
 
 
 def is_least(machine):

@@ -19,9 +19,9 @@ def least_parts(letters, left, right, table):
     left, right, table = trim_parts(letters, left, right, table)
     lefts = alike(left, table)
     rights = alike(right, columns(table))
-    first_rights = _firsts(rights)
-    table = [[table[i][j] for j in first_rights] for i in _firsts(lefts)]
-    return (_merged(left, lefts), _merged(right, rights), table)
+    first_rights = firsts(rights)
+    table = [[table[i][j] for j in first_rights] for i in firsts(lefts)]
+    return (merged(left, lefts), merged(right, rights), table)
 
 
 def alike(rows, written):
@@ -54,11 +54,11 @@ def _renumbered(rows, states):
     return [[numbers[after] for after in rows[state]] for state in states]
 
 
-def _merged(rows, classes):
+def merged(rows, classes):
     """Return the row of each class."""
-    return [[classes[after] for after in rows[state]] for state in _firsts(classes)]
+    return [[classes[after] for after in rows[state]] for state in firsts(classes)]
 
 
-def _firsts(classes):
+def firsts(classes):
     """Return the first state of each class."""
     return [classes.index(number) for number in range(max(classes) + 1)]

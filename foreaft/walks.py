@@ -4,6 +4,8 @@ Tables are lists of transition rows, one table for each machine; the states of
 the machines for one word are a tuple with a state for each table.
 """
 
+from foreaft.errors import MachineError
+
 
 def left_words(tables, letters):
     """Return the tuples of left states that words have, each with its first word, in the order of these words."""
@@ -18,6 +20,28 @@ def right_words(tables, letters):
 def states_after(tables, states, k):
     """Return the states to which the letter with the index k leads."""
     return tuple([rows[state][k] for rows, state in zip(tables, states)])
+
+
+def reached(start, afters, most):
+    """Return the states that words have, in the order in which they are found, and a row of their numbers for each.
+
+    The states can be any keys; afters returns for a state those to which the letters lead.
+    """
+    numbers = {start: 0}
+    states = [start]
+    rows = []
+    while len(rows) < len(states):
+        state = states[len(rows)]
+        row = []
+        for after in afters(state):
+            if after not in numbers:
+                numbers[after] = len(states)
+                states.append(after)
+            row.append(numbers[after])
+        rows.append(row)
+        if len(states) > most:
+            raise MachineError("too many states")
+    return (states, rows)
 
 
 def _first_words(tables, letters, from_end):
