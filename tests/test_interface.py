@@ -58,6 +58,20 @@ FUNCTIONS = {
         "preimages": ["machine", "word", "most"],
         "first_with": ["machine", "piece"],
     },
+    "collisions": {
+        "is_injective": ["machine"],
+        "collision": ["machine"],
+    },
+    "patterns": {
+        "matches": ["pattern", "word"],
+        "first_match": ["pattern"],
+        "count_outputs": ["machine", "pattern", "length"],
+    },
+    "rules": {
+        "applied": ["rules", "word"],
+        "which": ["rules", "word"],
+        "machine_of": ["rules"],
+    },
 }
 
 CLASSES = {
@@ -68,6 +82,24 @@ CLASSES = {
         "RuleError": ["line", "place", "reason"],
     },
     "machines": {"Machine": ["reads", "writes", "left", "right", "table"]},
+    "patterns": {"Pattern": ["alphabet", "text"]},
+    "rules": {"Rules": ["alphabet", "text"]},
+    "books": {"Book": ["alphabet"]},
+}
+
+BOOK_METHODS = {
+    "passes": [],
+    "size": [],
+    "insert": ["index", "machine"],
+    "remove": ["index"],
+    "move": ["start", "end"],
+    "apply": ["word"],
+    "trace": ["word"],
+    "whole": [],
+    "can_swap": ["index"],
+    "idle_passes": [],
+    "undo": [],
+    "copy": [],
 }
 
 
@@ -92,6 +124,12 @@ class TestInterface(unittest.TestCase):
             for kind, arguments in classes.items():
                 methods = {row.name: row for row in found[kind].body if isinstance(row, ast.FunctionDef)}
                 self.assertEqual(names_of(methods["__init__"]), ["self"] + arguments, (name, kind))
+
+    def test_methods_of_books(self):
+        book = [row for row in tree("books").body if isinstance(row, ast.ClassDef) and row.name == "Book"][0]
+        methods = {row.name: names_of(row) for row in book.body if isinstance(row, ast.FunctionDef)}
+        for name, arguments in BOOK_METHODS.items():
+            self.assertEqual(methods.get(name), ["self"] + arguments, name)
 
     def test_base_error(self):
         found = [row.name for row in tree("errors").body if isinstance(row, ast.ClassDef)]
