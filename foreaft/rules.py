@@ -113,7 +113,7 @@ def _told_apart(nets):
         if len(automata[-1][0]) > MOST_TOLD_APART:
             raise MachineError("too many states")
     # Each automaton is least, so words are told apart exactly if their states differ in one of them.
-    tables = [rows for rows, _ in automata]
+    tables = [table for table, _ in automata]
     letters = len(nets[0].reading)
     sets, rows = reached((0,) * len(nets), lambda states: _states_after(tables, states, letters), MOST_TOLD_APART)
     return (rows, [_fitting(automata, states) for states in sets])
